@@ -1,0 +1,1 @@
+"""Soundtill: tools that went bad at unknown moments, and what they measured."""
