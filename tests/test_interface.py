@@ -1,0 +1,77 @@
+"""What the interface lists stands where it lists it: in the file, and in the body of the class itself."""
+
+import importlib
+import inspect
+import unittest
+
+METHODS = {
+    "sayings.Saying": "sound unsound point __invert__ __lshift__ renamed __eq__ is_ahead __str__ read MOST",
+    "lives.Lives": "tools listed beginnings life_of last_of __contains__ __len__ __eq__ __bool__",
+    "rows.Row": "KINDS begins tools moments pairs __lshift__ renamed __eq__ __str__ read",
+    "books.Book": "MOST_ROWS MOST_RECORDS MOST_TOOLS put __iadd__ __isub__ row_of rows __setitem__ __getitem__ drop "
+                  "__contains__ records __len__ __bool__ tools lives told today set_today deeds known twin trial tried "
+                  "__eq__ __add__ __or__ __and__ __lshift__ renamed __str__ read",
+    "histories.History": "__getitem__ turn __call__ lives turns __eq__ is_ahead with_turn broken keeps plain always middle "
+                         "__str__",
+    "chains.Step": "__invert__ __eq__ __str__",
+    "chains.Chain": "source goal steps numbers __len__ __getitem__ __add__ __invert__ __eq__ __call__ __str__",
+    "chains.Reach": "told leads shortest reached ring",
+}
+PROPERTIES = {
+    "sayings.Saying": "point", "lives.Lives": "tools listed", "rows.Row": "begins tools moments",
+    "books.Book": "records tools lives told today deeds", "histories.History": "lives turns",
+    "chains.Chain": "source goal steps numbers", "chains.Reach": "told",
+}
+ARGUMENTS = {
+    "sayings.Saying": "tool moment is_sound", "lives.Lives": "begun", "rows.Begun": "tool moment", "rows.SetBy": "tool moment by",
+    "rows.Found": "tool moment is_sound", "rows.Trusted": "tool", "rows.Passed": "tool moment by", "rows.Failed": "tool moment by",
+    "rows.Agreed": "one moment other later", "rows.Differed": "one moment other later", "rows.Served": "one moment other later",
+    "rows.Backed": "one moment other later", "books.Book": "*rows **records", "histories.History": "lives turns",
+    "chains.Step": "one other reason", "chains.Chain": "*steps", "chains.Reach": "book *points", "texts.book_text": "book",
+    "sayings.Saying.sound": "tool moment", "sayings.Saying.unsound": "tool moment", "sayings.Saying.renamed": "self names",
+    "sayings.Saying.is_ahead": "self other", "sayings.Saying.read": "text", "lives.Lives.beginnings": "self tool",
+    "lives.Lives.life_of": "self tool moment", "lives.Lives.last_of": "self life", "rows.Row.pairs": "self lives",
+    "rows.Row.renamed": "self names", "rows.Row.read": "text", "books.Book.put": "self row", "books.Book.row_of": "self number",
+    "books.Book.rows": "self", "books.Book.drop": "self name", "books.Book.set_today": "self value", "books.Book.known": "self n",
+    "books.Book.twin": "self", "books.Book.trial": "self", "books.Book.tried": "self ask", "books.Book.renamed": "self names",
+    "books.Book.read": "text", "histories.History.turn": "self tool moment", "histories.History.is_ahead": "self other",
+    "histories.History.with_turn": "self tool moment turn", "histories.History.broken": "self book",
+    "histories.History.keeps": "self book", "histories.History.plain": "self book *points", "histories.History.always": "lives",
+    "histories.History.middle": "one two three", "chains.Reach.leads": "self one other", "chains.Reach.shortest": "self one other",
+    "chains.Reach.reached": "self one", "chains.Reach.ring": "self",
+}
+
+
+def found(path):
+    """The thing that a path of names tells, and the module."""
+    module, *names = path.split(".")
+    thing = home = importlib.import_module(f"soundtill.{module}")
+    for name in names:
+        thing = getattr(thing, name)
+    return thing, home
+
+
+class Interface(unittest.TestCase):
+    def test_methods_in_their_classes(self):
+        for path, names in METHODS.items():
+            for name in names.split():
+                self.assertIn(name, vars(found(path)[0]), path)
+
+    def test_properties(self):
+        for path, names in PROPERTIES.items():
+            for name in names.split():
+                self.assertIsInstance(vars(found(path)[0])[name], property)
+
+    def test_arguments(self):
+        for path, names in ARGUMENTS.items():
+            signature = inspect.signature(found(path)[0])
+            self.assertEqual([str(parameter) for parameter in signature.parameters.values()], names.split(), path)
+
+    def test_each_thing_is_defined_in_its_file(self):
+        for path in [*METHODS, *ARGUMENTS]:
+            thing, home = found(path)
+            self.assertEqual(thing.__module__, home.__name__, path)
+
+
+if __name__ == "__main__":
+    unittest.main()
