@@ -318,8 +318,6 @@ class Book:
     def __lshift__(self, ticks):
         rows = [row << ticks for row in self._standing()]
         records = {name: (tool, moment + ticks) for name, (tool, moment) in self.records.items()}
-        for tool, moment in records.values():
-            check_form(moment, "moment")
         return holding(filled(rows, records))
 
     def renamed(self, names):

@@ -37,12 +37,12 @@ class Case(unittest.TestCase):
     def same(self, one, other):
         """Equal, and of the same class; == and != agree, in both directions."""
         self.assertIs(type(one), type(other))
-        self.assertTrue(one == other)
-        self.assertTrue(other == one)
-        self.assertFalse(one != other)
+        self.assertIs(one == other, True)
+        self.assertIs(other == one, True)
+        self.assertIs(one != other, False)
 
     def unlike(self, one, other):
         """Not equal, in both directions."""
-        self.assertFalse(one == other)
-        self.assertFalse(other == one)
-        self.assertTrue(one != other)
+        self.assertIs(one == other, False)
+        self.assertIs(other == one, False)
+        self.assertIs(one != other, True)

@@ -23,6 +23,14 @@ class Written(Case):
         book.today = 20
         self.assertEqual(str(book), text + "\ntoday 20")
 
+    def test_records_set_in_any_order(self):
+        book = Book()
+        for name in ("r2", "z", "r10", "a"):
+            book[name] = ("b", 4)
+        book["z"] = ("b", 5)
+        self.assertEqual(str(book), "record a b 4\nrecord r10 b 4\nrecord r2 b 4\nrecord z b 5")
+        self.same(Book.read(str(book)), book)
+
     def test_some_parts(self):
         book = Book()
         self.assertEqual(str(book), "empty")

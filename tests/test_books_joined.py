@@ -66,6 +66,19 @@ class Joined(Case):
         self.refused(lambda: other | self.one, TooMany, "rows", 80)
         self.assertEqual(len(self.one & other), 2)
 
+    def test_records_set_in_any_order(self):
+        one, other = Book(), Book()
+        for name in ("z", "b", "m", "a"):
+            one[name] = ("a", 3)
+            other[name] = ("a", 4)
+        self.refused(lambda: one + other, Clash, "a")
+        self.refused(lambda: one | other, Clash, "a")
+        for book in (one + one, one | one, one & one, one << 1, one.renamed({"a": "b"})):
+            self.assertEqual([sorted(book.known(n).records) for n in range(4)], [[], ["a"], ["a", "b"], ["a", "b", "m"]])
+        one["a"] = ("a", 0)
+        one["z"] = ("a", 1)
+        self.refused(lambda: one << -2, BadMoment, -2)
+
     def test_too_many(self):
         tools = Book(*[Trusted(f"a{k}") for k in range(12)])
         self.refused(lambda: tools + Book(Trusted("b")), TooMany, "tools", 12)

@@ -64,6 +64,8 @@ class Chains(Case):
         self.assertEqual(self.chain.steps, self.steps)
         self.assertIs(type(self.chain.steps), tuple)
         self.assertEqual((self.chain.numbers, len(self.chain)), ((0, 5), 5))
+        back = [Step(A3, A3, number) for number in (8, 1, 64, 8, 3)]
+        self.assertEqual(Chain(*back).numbers, (1, 3, 8, 64))
         self.assertEqual((Chain(self.steps[1]).numbers, Chain(self.steps[0]).numbers), ((), (5,)))
 
     def test_made_refused(self):
