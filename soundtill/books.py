@@ -37,6 +37,7 @@ def behind(ledger, act):
         noted = changed(noted, key, new)
     else:
         standing = changed(standing, key, new)
+        # What is taken back has a number below this already, so only a putting makes it greater.
         coming = max(coming, key + 1)
     return Ledger(standing, noted, coming, ledger.acts + (act,), ledger.now)
 
