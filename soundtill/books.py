@@ -4,7 +4,7 @@ from soundtill.errors import BadMoment, BadPoint, BadRow, Clash, Later, NoDeed, 
 from soundtill.lives import Lives
 from soundtill.rows import Row
 from soundtill.texts import told_book
-from soundtill.words import check_form, is_integer, is_moment
+from soundtill.words import check_form, is_whole, is_moment
 
 
 class Ledger:
@@ -192,7 +192,7 @@ class Book:
 
     def row_of(self, number):
         """The standing row with this number, any value."""
-        if not is_integer(number) or number not in self._ledger.standing:
+        if not is_whole(number) or number not in self._ledger.standing:
             raise NoRow(number)
         return self._ledger.standing[number]
 
@@ -272,7 +272,7 @@ class Book:
 
     def known(self, n):
         """A new book that stands as this one did behind its first n deeds, n any value."""
-        if not is_integer(n) or not 0 <= n <= self.deeds:
+        if not is_whole(n) or not 0 <= n <= self.deeds:
             raise NoDeed(n)
         ledger = filled([], {})
         for act in self._ledger.acts[:n]:

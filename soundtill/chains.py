@@ -2,7 +2,7 @@
 
 from soundtill.errors import BadChain, BadPoint, NoTool
 from soundtill.sayings import Saying
-from soundtill.words import is_integer, is_point
+from soundtill.words import is_whole, is_point
 
 
 class Step:
@@ -13,7 +13,7 @@ class Step:
             raise BadChain(0)
         if not isinstance(other, Saying):
             raise BadChain(1)
-        if not (is_integer(reason) and reason >= 0) and not (isinstance(reason, str) and reason == "time"):
+        if not (is_whole(reason) and reason >= 0) and not (isinstance(reason, str) and reason == "time"):
             raise BadChain(2)
         self.one = one
         self.other = other
@@ -66,7 +66,7 @@ class Chain:
         return len(self._steps)
 
     def __getitem__(self, k):
-        if not is_integer(k) or not 0 <= k < len(self._steps):
+        if not is_whole(k) or not 0 <= k < len(self._steps):
             raise BadChain(k)
         return self._steps[k]
 

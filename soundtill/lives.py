@@ -1,7 +1,7 @@
 """Lives: the stretches of moments into which beginnings part the time of each tool."""
 
 from soundtill.errors import NoLife, NoTool
-from soundtill.words import GREATEST, check_form, is_integer
+from soundtill.words import GREATEST, check_form, is_whole
 
 
 def with_first(tool, moments):
@@ -55,7 +55,7 @@ class Lives:
         if not isinstance(tool, str) or tool not in self._begun:
             return False
         # True equals 1, but is no moment.
-        return is_integer(beginning) and beginning in self._begun[tool]
+        return is_whole(beginning) and beginning in self._begun[tool]
 
     def __len__(self):
         return len(self.listed)

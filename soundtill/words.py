@@ -21,14 +21,14 @@ NO_NAMES = (
 )
 
 
-def is_integer(value):
+def is_whole(value):
     """Whether any value is an int that is not a bool."""
     return isinstance(value, int) and not isinstance(value, bool)
 
 
 def is_moment(value):
     """Whether any value is a moment."""
-    return is_integer(value) and 0 <= value <= GREATEST
+    return is_whole(value) and 0 <= value <= GREATEST
 
 
 def is_name(value):
