@@ -4,7 +4,7 @@ from soundtill.errors import BadMoment, BadPoint, BadRow, Clash, Later, NoDeed, 
 from soundtill.lives import Lives
 from soundtill.rows import Row
 from soundtill.texts import told_book
-from soundtill.words import check_form, is_whole, is_moment
+from soundtill.words import check_form, is_moment, is_whole
 
 
 class Ledger:
