@@ -1,8 +1,9 @@
 """Steps from saying to saying, chains of them, and what leads to what in a book."""
 
 from soundtill.errors import BadChain, BadPoint, NoTool
+from soundtill.nets import Net
 from soundtill.sayings import Saying
-from soundtill.words import is_whole, is_point
+from soundtill.words import is_point, is_whole
 
 
 class Step:
@@ -97,195 +98,56 @@ class Chain:
         return ", ".join([str(self.source), *ends])
 
 
-def key_of(saying):
-    """A saying as a tuple, which can be a key."""
-    return saying.tool, saying.moment, saying.is_sound
-
-
-def stretch(low, high):
-    """The bits of the unsound sayings about the told points from the index low up to, not with, high."""
-    # Two bits stand for each point, so this is 1 + 4 + 16 + .., moved up.
-    return ((1 << (2 * high)) - (1 << (2 * low))) // 3
-
-
-def numbers_in(bits):
-    """The numbers of the bits that are set, ascending."""
-    numbers = []
-    while bits:
-        least = bits & -bits
-        numbers.append(least.bit_length() - 1)
-        bits = bits - least
-    return numbers
-
-
-class Reach:
-    """Which sayings lead to which in a book, as it was when this was made. It never changes.
-
-    Sets of sayings about told points are kept as the bits of an integer: those about the point
-    with the index k are the bits 2 k (unsound) and 2 k + 1 (sound), so greater sayings have
-    greater bits. A chain needs no points but the told ones between its ends: two time steps
-    that meet at another point are one.
-    """
+class Reach(Net):
+    """Which sayings lead to which in a book, as it was when this was made. It never changes."""
 
     def __init__(self, book, *points):
         for point in points:
             if not is_point(point):
                 raise BadPoint(point)
-        self._lives = book.lives
+        lives = book.lives
         for tool, moment in points:
-            self._check_tool(tool)
-        self._points = tuple(sorted(set(list(book.told) + list(points))))
-        self._places = {point: place for place, point in enumerate(self._points)}
-        self._in_life = self._told_lives()
-        self._reasons = self._row_reasons(book)
-        self._ahead = self._steps_ahead()
+            if tool not in lives.tools:
+                raise NoTool(tool)
+        recorded = list(book.records.values())
+        super().__init__(lives, list(book.rows()), recorded + list(points))
 
-    def _check_tool(self, tool):
-        if tool not in self._lives.tools:
-            raise NoTool(tool)
-
-    def _told_lives(self):
-        """For each life with told points the place of the first one, and the moments of all."""
-        found = {}
-        for place, (tool, moment) in enumerate(self._points):
-            life = self._lives.life_of(tool, moment)
-            first, moments = found.get(life, (place, []))
-            found[life] = (first, [*moments, moment])
-        return found
-
-    def _row_reasons(self, book):
-        """For the two ends of each step by a row the least number of such a row."""
-        reasons = {}
-        for number, row in book.rows():
-            for one, other in row.pairs(self._lives):
-                reasons.setdefault((key_of(one), key_of(~other)), number)
-                reasons.setdefault((key_of(other), key_of(~one)), number)
-        return reasons
-
-    def _steps_ahead(self):
-        """For each saying about a told point, by its bit, the bits of those one step ahead."""
-        ahead = [self._by_time(self._saying(number)) for number in range(2 * len(self._points))]
-        for one, other in self._reasons:
-            ahead[self._number(one)] = ahead[self._number(one)] | (1 << self._number(other))
-        return ahead
-
-    def _number(self, key):
-        tool, moment, is_sound = key
-        return 2 * self._places[tool, moment] + (1 if is_sound else 0)
-
-    def _saying(self, number):
-        tool, moment = self._points[number // 2]
-        return Saying(tool, moment, number % 2 == 1)
-
-    def _by_time(self, saying):
-        """The bits of the sayings to which a time step leads from a saying about any point."""
-        first, moments = self._in_life.get(self._lives.life_of(saying.tool, saying.moment), (0, []))
-        if saying.is_sound:
-            lesser = len([moment for moment in moments if moment < saying.moment])
-            return stretch(first, first + lesser) << 1
-        greater = len([moment for moment in moments if moment > saying.moment])
-        end = first + len(moments)
-        return stretch(end - greater, end)
-
-    def _one_ahead(self, saying):
-        """The bits of the sayings to which a step leads from a saying about any point."""
-        if saying.point in self._places:
-            return self._ahead[self._number(key_of(saying))]
-        return self._by_time(saying)
-
-    def _one_behind(self, saying):
-        """The bits of the sayings from which a step leads to a saying about any point."""
-        # They are the contraries of what its contrary leads to: each pair of bits is exchanged.
-        turned = self._one_ahead(~saying)
-        unsound = stretch(0, len(self._points))
-        return ((turned & unsound) << 1) | ((turned >> 1) & unsound)
-
-    def _layers(self, one):
-        """The bits of the sayings to which a shortest chain has one step, two steps, and so on."""
-        layers = []
-        seen = 0
-        layer = self._one_ahead(one)
-        while layer:
-            layers.append(layer)
-            seen = seen | layer
-            ahead = 0
-            for number in numbers_in(layer):
-                ahead = ahead | self._ahead[number]
-            layer = ahead & ~seen
-        return layers
-
-    def _reason(self, one, other):
-        """The reason of a step from one saying to another one; None if there is no such step."""
-        if one.is_sound == other.is_sound and one.tool == other.tool:
-            is_later = other.moment < one.moment if one.is_sound else other.moment > one.moment
-            like = self._lives.life_of(one.tool, one.moment) == self._lives.life_of(other.tool, other.moment)
-            if is_later and like:
-                return "time"
-        return self._reasons.get((key_of(one), key_of(other)))
-
-    def _between(self, one, other):
-        """The layers between the ends of a shortest chain, none for a single step; None if there is no chain."""
-        if self._reason(one, other) is not None:
-            return []
-        last = self._one_behind(other)
-        layers = self._layers(one)
-        for at, layer in enumerate(layers):
-            if layer & last:
-                return layers[:at + 1]
-        return None
+    def _check_tools(self, *sayings):
+        for saying in sayings:
+            if saying.tool not in self.lives.tools:
+                raise NoTool(saying.tool)
 
     @property
     def told(self):
         """The told points and those that were passed, ascending."""
-        return self._points
+        return self.points
 
     def leads(self, one, other):
         """Whether one saying leads to another one."""
-        self._check_tool(one.tool)
-        self._check_tool(other.tool)
-        return self._between(one, other) is not None
+        self._check_tools(one, other)
+        return super().leads(one, other)
 
     def shortest(self, one, other):
         """A shortest chain from one saying to another one; None if there is none."""
-        self._check_tool(one.tool)
-        self._check_tool(other.tool)
-        layers = self._between(one, other)
-        if layers is None:
+        self._check_tools(one, other)
+        way = self.shortest_way(one, other)
+        if way is None:
             return None
-        sayings = [other]
-        for layer in layers[::-1]:
-            before = numbers_in(layer & self._one_behind(sayings[-1]))
-            sayings.append(self._saying(before[0]))
-        sayings.append(one)
-        way = sayings[::-1]
-        steps = [Step(start, end, self._reason(start, end)) for start, end in zip(way, way[1:])]
+        steps = [Step(start, end, self.reason_for(start, end)) for start, end in zip(way, way[1:])]
         return Chain(*steps)
 
     def reached(self, one):
         """Yields the sayings about told points to which a saying leads, those in fewer steps first."""
-        self._check_tool(one.tool)
-        for layer in self._layers(one):
-            for number in numbers_in(layer):
-                yield self._saying(number)
+        self._check_tools(one)
+        for layer in self.layers(one):
+            for saying in self.sayings_in(layer):
+                yield saying
 
     def ring(self):
         """A ring with as few steps as any; None if there is none."""
-        best, least = None, 0
-        for number in range(0, 2 * len(self._points), 2):
-            saying = self._saying(number)
-            steps = self._steps_round(saying)
-            if steps is not None and (best is None or steps < least):
-                best, least = saying, steps
-        if best is None:
-            return None
-        return self.shortest(best, ~best) + self.shortest(~best, best)
-
-    def _steps_round(self, saying):
-        """How many steps a shortest ring through a saying and its contrary has, None if there is none."""
-        there = self._between(saying, ~saying)
-        if there is None:
-            return None
-        back = self._between(~saying, saying)
-        if back is None:
-            return None
-        return len(there) + len(back) + 2
+        best = None
+        for saying in self.on_rings():
+            there, back = self.shortest(saying, ~saying), self.shortest(~saying, saying)
+            if best is None or len(there) + len(back) < len(best):
+                best = there + back
+        return best

@@ -13,7 +13,7 @@ PACKAGE = pathlib.Path(__file__).parent.parent / "soundtill"
 
 BUILTINS = set(
     "len range enumerate zip min max sum abs sorted reversed int str bool list tuple dict set isinstance ord repr any all "
-    "divmod property staticmethod classmethod super Exception ValueError TypeError KeyError NotImplemented map".split()
+    "divmod property staticmethod classmethod super Exception ValueError TypeError KeyError NotImplemented NotImplementedError map".split()
 )
 METHODS = set(
     "append clear copy count endswith extend find get index insert isalnum isalpha isdigit islower isspace isupper items "
@@ -274,7 +274,7 @@ def sets():
 def errors():
     made = {node.name for name, node in nodes(ast.ClassDef) if name == "errors.py"}
     for name, node in nodes(ast.Raise):
-        if called(node.exc) not in made | {"TypeError"}:
+        if called(node.exc) not in made | {"TypeError", "NotImplementedError"}:
             yield name, node.lineno, "L19 raise"
     for name, node in nodes(ast.ExceptHandler):
         if not isinstance(node.type, ast.Name) or node.type.id not in made | {"KeyError"}:
@@ -295,7 +295,7 @@ def endings():
         if function.name == "__len__" and not all(called(value) == "len" for value in returns):
             yield name, function.lineno, "L28 return of __len__"
         for value in returns if function.name == "__bool__" else []:
-            if called(value) != "bool":
+            if called(value) != "bool" and not (isinstance(value, ast.Constant) and isinstance(value.value, bool)):
                 yield name, function.lineno, "L5 return of __bool__"
     for name, node in nodes(ast.Starred):
         if isinstance(node.ctx, ast.Load) and isinstance(node.value, ast.GeneratorExp):
