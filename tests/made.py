@@ -81,3 +81,20 @@ def true_in(history, saying):
     life = max(life for life in lives.listed if life[0] == saying.tool and life[1] <= saying.moment)
     turn = history.turns[life]
     return (turn is None or saying.moment < turn) == saying.is_sound
+
+
+def plain_histories(book, points=()):
+    """All plain histories by the told points and these that keep the book, in the order of histories."""
+    lives = book.lives
+    told = {*book.told, *points}
+    choices = []
+    for life in lives.listed:
+        moments = sorted(moment for tool, moment in told if lives.life_of(tool, moment) == life)
+        choices.append([*([life[1]] if moments else []), *[moment + 1 for moment in moments[:-1]], None])
+    pairs = [pair for number, row in book.rows() for pair in row.pairs(lives)]
+    found = []
+    for turns in itertools.product(*choices):
+        history = History(lives, dict(zip(lives.listed, turns)))
+        if not any(true_in(history, one) and true_in(history, other) for one, other in pairs):
+            found.append(history)
+    return found

@@ -16,11 +16,16 @@ METHODS = {
     "chains.Step": "__invert__ __eq__ __str__",
     "chains.Chain": "source goal steps numbers __len__ __getitem__ __add__ __invert__ __eq__ __call__ __str__",
     "chains.Reach": "told leads shortest reached ring",
+    "judge.Judge": "__call__ shown record each_record history_with told settled book",
+    "judge.Verdict": "__bool__ __invert__ __eq__", "judge.Sure": "__bool__ __invert__ __eq__",
+    "judge.Never": "__bool__ __invert__ __eq__", "judge.Open": "__bool__ __invert__ __eq__",
+    "turns.Turns": "whole __contains__ __bool__ least __and__ __or__ __invert__ within __eq__ __str__",
 }
 PROPERTIES = {
     "sayings.Saying": "point", "lives.Lives": "tools listed", "rows.Row": "begins tools moments",
     "books.Book": "records tools lives told today deeds", "histories.History": "lives turns",
     "chains.Chain": "source goal steps numbers", "chains.Reach": "told",
+    "judge.Judge": "told settled book", "turns.Turns": "least",
 }
 ARGUMENTS = {
     "sayings.Saying": "tool moment is_sound", "lives.Lives": "begun", "rows.Begun": "tool moment", "rows.SetBy": "tool moment by",
@@ -39,6 +44,12 @@ ARGUMENTS = {
     "histories.History.keeps": "self book", "histories.History.plain": "self book *points", "histories.History.always": "lives",
     "histories.History.middle": "one two three", "chains.Reach.leads": "self one other", "chains.Reach.shortest": "self one other",
     "chains.Reach.reached": "self one", "chains.Reach.ring": "self",
+    "judge.Judge": "book *points", "judge.Sure": "saying chain", "judge.Never": "saying chain", "judge.Open": "saying yes no",
+    "judge.Judge.__call__": "self saying", "judge.Judge.shown": "self saying", "judge.Judge.record": "self name",
+    "judge.Judge.each_record": "self", "judge.Judge.history_with": "self *sayings",
+    "turns.Turns": "first last stretches=() has_none=False", "turns.Turns.whole": "first last", "turns.Turns.within": "self other",
+    "turns.turns_of": "judge tool moment", "turns.turn_sayings": "lives tool moment turn", "every.histories": "judge",
+    "every.first_history": "judge *sayings", "every.count": "judge most=1000",
 }
 
 

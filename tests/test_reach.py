@@ -6,6 +6,7 @@ import unittest
 
 from kit import STRANGE, TOP, Case
 from made import books, keeping, some_row
+from search import are_steps, contrary, distances, is_chain_of, key, next_sayings
 from soundtill.books import Book
 from soundtill.chains import Chain, Reach
 from soundtill.errors import BadPoint, NoTool
@@ -13,46 +14,6 @@ from soundtill.rows import (
     Agreed, Backed, Begun, Differed, Failed, Found, Passed, Served, SetBy, Trusted,
 )
 from soundtill.sayings import Saying
-
-
-def key(saying):
-    return saying.tool, saying.moment, saying.is_sound
-
-
-def contrary(one):
-    return one[0], one[1], not one[2]
-
-
-def row_steps(book):
-    """The ends of all steps by rows, each with the set of its numbers, by the words of the document alone."""
-    found = {}
-    for number, row in book.rows():
-        for u, v in row.pairs(book.lives):
-            for start, end in ((u, v), (v, u)):
-                found.setdefault((key(start), contrary(key(end))), set()).add(number)
-    return found
-
-
-def is_time_step(lives, one, other):
-    like = lives.life_of(*one[:2]) == lives.life_of(*other[:2]) and one[2] == other[2]
-    return like and (one[1] > other[1] if one[2] else one[1] < other[1])
-
-
-def next_sayings(book, points):
-    """For each saying about the points all to which one step leads."""
-    sayings = [(tool, moment, truth) for tool, moment in points for truth in (False, True)]
-    lives, by_rows = book.lives, row_steps(book)
-    return {one: [other for other in sayings if (one, other) in by_rows or is_time_step(lives, one, other)] for one in sayings}
-
-
-def distances(ahead, one):
-    """The least number of steps to each saying to which one leads."""
-    found, edge, steps = {}, [one], 0
-    while edge:
-        steps += 1
-        edge = sorted({other for start in edge for other in ahead[start]} - set(found))
-        found.update({other: steps for other in edge})
-    return found
 
 
 class Made(Case):
@@ -139,19 +100,7 @@ class Searched(Case):
     def chain_of(self, book, chain, one, other):
         """The chain is one of the book, from the one saying to the other one."""
         self.assertIs(type(chain), Chain)
-        self.assertEqual((key(chain.source), key(chain.goal)), (one, other))
-        self.steps_of(book, chain)
-
-    def steps_of(self, book, chain):
-        lives, by_rows = book.lives, row_steps(book)
-        for at, step in enumerate(chain.steps):
-            ends = key(step.one), key(step.other)
-            if step.reason == "time":
-                self.assertTrue(is_time_step(lives, *ends))
-            else:
-                self.assertIn(step.reason, by_rows[ends])
-            if at:
-                self.assertEqual(ends[0], key(chain[at - 1].other))
+        self.assertTrue(is_chain_of(book, chain, Saying(*one), Saying(*other)))
 
     def test_shortest_and_leads(self):
         source = random.Random(14)
@@ -237,7 +186,7 @@ class Searched(Case):
         reach = Reach(book, *points)
         self.assertEqual(reach.told, tuple(sorted({*book.told, *points})))
         ring = reach.ring()
-        self.steps_of(book, ring)
+        self.assertTrue(are_steps(book, ring))
         self.assertEqual(key(ring.source), key(ring.goal))
         one = reach.told[len(reach.told) // 2]
         steps = distances(next_sayings(book, reach.told), (*one, True))
