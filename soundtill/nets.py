@@ -205,6 +205,10 @@ class Net:
             bits = bits | self._led_to(saying) | (0 if number is None else 1 << number)
         return bits
 
+    def holds(self, bits, saying):
+        """Whether a saying about a told point is among these."""
+        return (bits >> self._number(key_of(saying))) & 1 == 1
+
     def is_torn(self, bits):
         """Whether some saying and its contrary are among these."""
         return bits & (bits >> 1) & stretch(0, len(self.points)) != 0

@@ -144,8 +144,11 @@ def module_level():
 
 
 def statements_and_values():
+    # A book is changed by += and -=; nothing else is, and no method does so.
+    plain = {(name, node.lineno) for name, _, tree in trees() for function in tree.body
+             if isinstance(function, ast.FunctionDef) for node in ast.walk(function) if isinstance(node, ast.AugAssign)}
     for name, node in nodes(ast.stmt):
-        if not isinstance(node, (*STATEMENTS, ast.ImportFrom, ast.ClassDef)):
+        if not isinstance(node, (*STATEMENTS, ast.ImportFrom, ast.ClassDef)) and (name, node.lineno) not in plain:
             yield name, node.lineno, "L6 statement (or a sign of L5, +=)"
     for name, node in nodes((ast.Lambda, ast.Await, ast.GeneratorExp, ast.Set, ast.NamedExpr, ast.Div, ast.MatMult, ast.Pow)):
         yield name, getattr(node, "lineno", 0), f"L7 {type(node).__name__}"

@@ -19,13 +19,16 @@ METHODS = {
     "judge.Judge": "__call__ shown record each_record history_with told settled book",
     "judge.Verdict": "__bool__ __invert__ __eq__", "judge.Sure": "__bool__ __invert__ __eq__",
     "judge.Never": "__bool__ __invert__ __eq__", "judge.Open": "__bool__ __invert__ __eq__",
+    "lists.Listed": "__bool__ __eq__", "lists.Together": "__bool__ __eq__", "lists.Apart": "__bool__ __eq__",
+    "lots.Lots": "MOST LONGEST __setitem__ __iadd__ __getitem__ drop verdict shown __contains__ __len__ names __eq__ together apart recall",
+    "follows.RowPaper": "__bool__ __eq__", "follows.Follows": "__bool__ __eq__", "follows.Broken": "__bool__ __eq__",
     "turns.Turns": "whole __contains__ __bool__ least __and__ __or__ __invert__ within __eq__ __str__",
 }
 PROPERTIES = {
     "sayings.Saying": "point", "lives.Lives": "tools listed", "rows.Row": "begins tools moments",
     "books.Book": "records tools lives told today deeds", "histories.History": "lives turns",
     "chains.Chain": "source goal steps numbers", "chains.Reach": "told",
-    "judge.Judge": "told settled book", "turns.Turns": "least",
+    "judge.Judge": "told settled book", "turns.Turns": "least", "lots.Lots": "names",
 }
 ARGUMENTS = {
     "sayings.Saying": "tool moment is_sound", "lives.Lives": "begun", "rows.Begun": "tool moment", "rows.SetBy": "tool moment by",
@@ -50,6 +53,12 @@ ARGUMENTS = {
     "turns.Turns": "first last stretches=() has_none=False", "turns.Turns.whole": "first last", "turns.Turns.within": "self other",
     "turns.turns_of": "judge tool moment", "turns.turn_sayings": "lives tool moment turn", "every.histories": "judge",
     "every.first_history": "judge *sayings", "every.count": "judge most=1000",
+    "lists.Together": "sayings history", "lists.Apart": "sayings one other chain", "lists.together": "judge sayings",
+    "lists.grown": "judge sayings", "lists.shut": "judge", "lots.Lots": "judge **lots", "lots.Lots.drop": "self name",
+    "lots.Lots.verdict": "self name", "lots.Lots.shown": "self name", "lots.Lots.together": "self *names", "lots.Lots.apart": "self",
+    "lots.Lots.recall": "self surely=False", "follows.Follows": "evidence chains", "follows.Broken": "evidence history",
+    "follows.follows": "judge row", "follows.shown_row": "judge row", "follows.needless": "book", "follows.thinned": "book",
+    "held.at_most": "one other", "held.alike": "one other", "held.parting": "one other",
 }
 
 

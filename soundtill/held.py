@@ -1,0 +1,46 @@
+"""Books held against one another: whether what keeps the one keeps the other."""
+
+from soundtill.errors import Unlike
+from soundtill.follows import kept_lives, pair_follows
+from soundtill.judge import history_in
+from soundtill.lives import Lives
+from soundtill.nets import Net
+
+
+def later_beginnings(lives, tool):
+    """The beginnings of a tool but the first one; a tool that is not among the lives has no others."""
+    return lives.beginnings(tool)[1:] if tool in lives.tools else ()
+
+
+def joint_lives(lives, others):
+    """The lives of all tools of both; raises Unlike with the least tool that has not the same ones."""
+    begun = {}
+    for tool in sorted(set(lives.tools + others.tools)):
+        begun[tool] = later_beginnings(lives, tool)
+        if begun[tool] != later_beginnings(others, tool):
+            raise Unlike(tool)
+    return Lives(begun)
+
+
+def parting(one, other):
+    """The least number of a row of the other book that does not follow from the one, and a history; None if all do."""
+    lives = joint_lives(one.lives, other.lives)
+    kept_lives(one)
+    kept_lives(other)
+    net = Net(lives, list(one.rows()), ())
+    for number, row in other.rows():
+        for saying, denied in row.pairs(lives):
+            if not pair_follows(net, saying, denied):
+                told = net.with_points([saying.point, denied.point])
+                return number, history_in(told, [saying, denied])
+    return None
+
+
+def at_most(one, other):
+    """Whether each history of all tools of both books that keeps the one keeps the other."""
+    return parting(one, other) is None
+
+
+def alike(one, other):
+    """Whether each of two books is at most the other."""
+    return at_most(one, other) and at_most(other, one)
