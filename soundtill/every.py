@@ -41,8 +41,6 @@ def first_history(judge, *sayings):
     """The first plain history that keeps the judge's book and makes the sayings true; None if there is none."""
     net = judge.net_with(sayings)
     held = net.forced(sayings)
-    if net.is_torn(held):
-        return None
     for turns in each_plain(net, held):
         return with_turns(net, turns)
     return None

@@ -54,7 +54,8 @@ def ring_from(nexts, start, beyond):
     """What is reached from a number without those that beyond has already, and the bits of all that is reached."""
     ring, bits, waiting = {start: True}, 0, [start]
     while waiting:
-        for other in nexts[waiting.pop()]:
+        one = waiting.pop()
+        for other in nexts[one]:
             bits = bits | (1 << other) | beyond.get(other, 0)
             if other not in beyond and other not in ring:
                 ring[other] = True

@@ -309,14 +309,13 @@ class Verdicts(Case):
             self.assertEqual((type(~one), (~one).saying, (~one).word), (type(other), other.saying, other.word))
 
     def test_equal(self):
-        chain = ~self.chain
+        longer = self.judge.reach.shortest(Saying("b", 7, True), Saying("b", 7, False))
         verdicts = [
             Sure(self.saying, self.chain), Never(self.saying, self.chain), Sure(self.other, self.chain), Never(self.other, self.chain),
             Open(self.saying, self.yes, self.no), Open(self.saying, self.no, self.yes), Open(self.other, self.yes, self.no),
             Open(self.saying, self.yes, self.yes), Sure(~self.saying, self.chain), Never(~self.saying, self.chain),
-            Sure(self.saying, self.judge.reach.shortest(Saying("b", 5, True), Saying("b", 5, False))),
+            Sure(self.saying, longer), Never(self.saying, longer),
         ]
-        self.assertEqual(chain, self.chain)
         for one, other in itertools.combinations(verdicts, 2):
             self.unlike(one, other)
         for verdict in verdicts:

@@ -35,6 +35,7 @@ class Kept(Case):
         self.lots["w"] = ("r1", "r1", "r3")
         self.lots["x"] = ["r2"]
         self.assertEqual(self.state(), {"w": ("r1", "r1", "r3"), "x": ("r2",), "y": ("r2", "r3"), "z": ()})
+        self.assertEqual(self.lots.names, ("w", "x", "y", "z"))
         self.assertIs(self.lots.drop("y"), None)
         self.lots.drop(name="z")
         self.assertEqual(self.state(), {"w": ("r1", "r1", "r3"), "x": ("r2",)})

@@ -86,7 +86,8 @@ class Made(Case):
 
     def test_least_and_truth(self):
         for turns, least, truth in ((Turns(3, 9), None, False), (Turns(3, 9, (), True), None, True), (Turns(3, 9, [(5, 6), (4, 4)]), 4, True),
-                                    (Turns.whole(3, 9), 3, True), (Turns(0, 9, [(0, 0)]), 0, True)):
+                                    (Turns.whole(3, 9), 3, True), (Turns(0, 9, [(0, 0)]), 0, True),
+                                    (Turns(0, 9, [(8, 9), (2, 3), (5, 5)]), 2, True)):
             self.assertEqual(turns.least, least)
             self.assertIs(bool(turns), truth)
 
