@@ -232,6 +232,23 @@ class Searched(Case):
                 self.same(one.shown(saying), two.shown(saying))
                 self.same(one.shown(saying), one.shown(saying))
 
+    def test_the_same_paper_for_books_that_were_filled_otherwise(self):
+        rows = [Passed("a", 8, "b"), Found("c", 2, True), Passed("b", 9, "c"), Agreed("c", 9, "a", 8), Trusted("c")]
+        one, other = Book(*rows, r=("a", 3), s=("b", 12)), Book(s=("b", 12))
+        one -= 1
+        for row in rows[:2]:
+            other += row
+        other -= 1
+        other["r"] = ("b", 1)
+        for row in rows[2:]:
+            other += row
+        other["r"] = ("a", 3)
+        points = [("b", 10), ("a", 4)]
+        self.assertEqual((one, [number for number, row in one.rows()]), (other, [number for number, row in other.rows()]))
+        judges = Judge(one, *points), Judge(other, *points)
+        for saying in sayings_of({*judges[0].told, ("c", 20), ("b", 30)}):
+            self.same(judges[0].shown(saying), judges[1].shown(saying))
+
     def test_history_with(self):
         source, found = random.Random(27), []
         for book, points, kept in self.some():
