@@ -1,25 +1,17 @@
 """Books held against one another: whether what keeps the one keeps the other."""
 
-from soundtill.errors import Unlike
 from soundtill.follows import kept_lives, pair_follows
+from soundtill.histories import check_like
 from soundtill.judge import history_in
-from soundtill.lives import Lives
+from soundtill.lives import with_tools
 from soundtill.nets import Net
-
-
-def later_beginnings(lives, tool):
-    """The beginnings of a tool but the first one; a tool that is not among the lives has no others."""
-    return lives.beginnings(tool)[1:] if tool in lives.tools else ()
 
 
 def joint_lives(lives, others):
     """The lives of all tools of both; raises Unlike with the least tool that has not the same ones."""
-    begun = {}
-    for tool in sorted(set(lives.tools + others.tools)):
-        begun[tool] = later_beginnings(lives, tool)
-        if begun[tool] != later_beginnings(others, tool):
-            raise Unlike(tool)
-    return Lives(begun)
+    joint = with_tools(lives, others.tools)
+    check_like(joint, with_tools(others, lives.tools))
+    return joint
 
 
 def parting(one, other):

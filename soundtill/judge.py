@@ -136,19 +136,14 @@ class Judge:
     def settled(self):
         """The sure sayings about told points, ascending."""
         sayings = [Saying(tool, moment, is_sound) for tool, moment in self.told for is_sound in (False, True)]
-        return tuple([saying for saying in sayings if self._word(saying) == "sure"])
-
-    def _word(self, saying):
-        if self.reach.leads(~saying, saying):
-            return "sure"
-        return "never" if self.reach.leads(saying, ~saying) else "open"
+        return tuple([saying for saying in sayings if self.reach.judged(saying) == "sure"])
 
     def __call__(self, saying):
-        return self._word(saying)
+        return self.reach.judged(saying)
 
     def shown(self, saying):
         """The verdict on a saying with what shows it."""
-        word = self._word(saying)
+        word = self.reach.judged(saying)
         if word == "sure":
             return Sure(saying, self.reach.shortest(~saying, saying))
         if word == "never":
@@ -158,7 +153,7 @@ class Judge:
     def record(self, name):
         """Whether a record, its name any value, is sound, unsound or open."""
         tool, moment = self._book[name]
-        return RECORD_WORDS[self._word(Saying(tool, moment, True))]
+        return RECORD_WORDS[self.reach.judged(Saying(tool, moment, True))]
 
     def each_record(self):
         """Yields the name and the word of each record, ascending."""

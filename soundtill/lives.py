@@ -65,3 +65,11 @@ class Lives:
 
     def __bool__(self):
         return bool(self._begun)
+
+
+def with_tools(lives, tools):
+    """The lives, and a first life of each of these tools that has none there."""
+    begun = {tool: lives.beginnings(tool)[1:] for tool in lives.tools}
+    for tool in tools:
+        begun.setdefault(tool, ())
+    return Lives(begun)

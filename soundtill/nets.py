@@ -8,14 +8,30 @@ def key_of(saying):
     return saying.tool, saying.moment, saying.is_sound
 
 
+def row_steps(lives, numbered):
+    """The steps by the numbered rows, each as a tuple of the keys of its two ends and the number."""
+    steps = []
+    for number, row in numbered:
+        for one, other in row.pairs(lives):
+            steps.append((key_of(one), key_of(~other), number))
+            steps.append((key_of(other), key_of(~one), number))
+    return steps
+
+
 def row_reasons(lives, numbered):
     """For the two ends of each step by one of the numbered rows the least number of such a row."""
     reasons = {}
-    for number, row in numbered:
-        for one, other in row.pairs(lives):
-            reasons.setdefault((key_of(one), key_of(~other)), number)
-            reasons.setdefault((key_of(other), key_of(~one)), number)
+    for one, other, number in row_steps(lives, numbered):
+        reasons.setdefault((one, other), number)
     return reasons
+
+
+def is_by_time(lives, one, other):
+    """Whether a time step leads from one saying, about a tool of these lives, to another saying."""
+    if one.tool != other.tool or one.is_sound != other.is_sound:
+        return False
+    is_ahead = other.moment < one.moment if one.is_sound else other.moment > one.moment
+    return is_ahead and lives.life_of(one.tool, one.moment) == lives.life_of(other.tool, other.moment)
 
 
 def stretch(low, high):
@@ -176,10 +192,8 @@ class Net:
 
     def reason_for(self, one, other):
         """The reason of a step from one saying to another one; None if there is no such step."""
-        if one.is_sound == other.is_sound and one.tool == other.tool:
-            is_later = other.moment < one.moment if one.is_sound else other.moment > one.moment
-            if is_later and self._life_of(one) == self._life_of(other):
-                return "time"
+        if is_by_time(self._lives, one, other):
+            return "time"
         return self._reasons.get((key_of(one), key_of(other)))
 
     @property
@@ -222,6 +236,12 @@ class Net:
     def leads(self, one, other):
         """Whether one saying leads to another one."""
         return self.reason_for(one, other) is not None or self._led_to(one) & self._last_steps(other) != 0
+
+    def judged(self, saying):
+        """Whether a saying is sure, never so or open, if there is no ring."""
+        if self.leads(~saying, saying):
+            return "sure"
+        return "never" if self.leads(saying, ~saying) else "open"
 
     def layers(self, one):
         """The bits of the sayings to which a shortest chain has one step, two steps, and so on."""

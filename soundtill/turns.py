@@ -108,6 +108,25 @@ def plain_turns(life, moments):
     return [*([beginning] if moments else []), *behind, None]
 
 
+def plain_blocks(lives, life, moments):
+    """Each plain turn of a life with these told moments, and the bounds of the moments for which it stands.
+
+    A plain turn stands for all turns from it up to the next told moment, None for all behind the
+    greatest one and None itself. There may be no such moment: then the bounds are exchanged.
+    """
+    _, beginning = life
+    lows = [beginning] + [moment + 1 for moment in moments]
+    highs = [*moments, lives.last_of(life)]
+    return list(zip(plain_turns(life, moments), lows, highs))
+
+
+def turns_among(lives, life, blocks):
+    """The turns of a life for which these plain turns stand."""
+    _, beginning = life
+    stretches = [(low, high) for turn, low, high in blocks if low <= high]
+    return Turns(beginning, lives.last_of(life), stretches, None in [turn for turn, low, high in blocks])
+
+
 def turn_sayings(lives, tool, moment, turn):
     """The sayings that are true exactly if the life of a point has this turn; any values."""
     life = lives.life_of(tool, moment)
@@ -123,14 +142,10 @@ def turn_sayings(lives, tool, moment, turn):
 def turns_of(judge, tool, moment):
     """All turns that the life of a point, any values, has in histories that keep the judge's book."""
     reach = judge.reach
-    life = reach.lives.life_of(tool, moment)
-    last = reach.lives.last_of(life)
-    moments = reach.moments_in(life)
-    lows = [life[1]] + [moment + 1 for moment in moments]
-    stretches, has_none = [], False
-    # A plain turn stands for all turns from it up to the next told moment, None for all behind the greatest one.
-    for turn, low, high in zip(plain_turns(life, moments), lows, [*moments, last]):
-        if not reach.is_torn(reach.forced(turn_sayings(reach.lives, tool, moment, turn))):
-            stretches = stretches + ([(low, high)] if low <= high else [])
-            has_none = has_none or turn is None
-    return Turns(life[1], last, stretches, has_none)
+    lives = reach.lives
+    life = lives.life_of(tool, moment)
+    possible = []
+    for turn, low, high in plain_blocks(lives, life, reach.moments_in(life)):
+        if not reach.is_torn(reach.forced(turn_sayings(lives, tool, moment, turn))):
+            possible.append((turn, low, high))
+    return turns_among(lives, life, possible)
