@@ -1,4 +1,4 @@
-"""The texts of books: what their lines tell."""
+"""The texts of books and plans, and what their lines tell."""
 
 from soundtill.errors import BadText
 from soundtill.rows import Row, read_row
@@ -15,11 +15,22 @@ def book_text(book):
     return str(book)
 
 
+def plan_text(plan):
+    """The text of a plan."""
+    return str(plan)
+
+
 def lines_of(text):
     """The lines of any value that is a text, each as the list of its words."""
     if not isinstance(text, str):
         raise BadText(0, 0)
     return [line.split(" ") for line in text.split("\n")]
+
+
+def check_alone(lines):
+    """Raises BadText if there is a second line."""
+    if len(lines) > 1:
+        raise BadText(1, 0)
 
 
 def told_book(text):
