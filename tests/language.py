@@ -25,6 +25,7 @@ DUNDERS = set(
     "isub imul ior iand neg pos invert abs bool contains getitem setitem".split()
 )
 NOWHERE = set("register mro elements open input law version_info with_traceback add_note".split())
+CLASS_WORDS = ("__class__", "__name__")
 STATEMENTS = (
     ast.Assign, ast.If, ast.While, ast.For, ast.Return, ast.Break, ast.Continue, ast.Pass, ast.Raise, ast.Assert,
     ast.Delete, ast.With, ast.Try, ast.Expr, ast.FunctionDef,
@@ -136,11 +137,19 @@ def module_level():
                 continue
             if not isinstance(node, (ast.ImportFrom, ast.FunctionDef, ast.ClassDef, ast.Assign)):
                 yield name, node.lineno, "L3 module level"
-            if isinstance(node, ast.Assign):
-                try:
-                    ast.literal_eval(node.value)
-                except ValueError:
-                    yield name, node.lineno, "L3 no plain value"
+            if isinstance(node, ast.Assign) and not is_plain(node.value, {made.name for made in tree.body[:at] if isinstance(made, ast.FunctionDef)}):
+                yield name, node.lineno, "L3 no plain value"
+
+
+def is_plain(value, above):
+    """Whether a value is a literal, or a dict from literals to functions defined above."""
+    if isinstance(value, ast.Dict) and all(isinstance(part, ast.Name) and part.id in above for part in value.values):
+        return all(isinstance(key, ast.Constant) for key in value.keys)
+    try:
+        ast.literal_eval(value)
+    except ValueError:
+        return False
+    return True
 
 
 def statements_and_values():
@@ -176,17 +185,34 @@ def names_used():
                 yield name, node.lineno, f"L8 {node.id}"
             words = [getattr(node, field, None) for field in ("id", "attr", "arg", "name")]
             for word in [word for word in words if isinstance(word, str)]:
-                if word in NOWHERE or (word.startswith("__") and word[2:-2] not in DUNDERS):
+                if word in NOWHERE or (word.startswith("__") and word[2:-2] not in DUNDERS and word not in CLASS_WORDS):
                     yield name, getattr(node, "lineno", 0), f"L17 {word}"
-            if isinstance(node, ast.Attribute) and node.attr.startswith("__") and node.attr != "__init__":
+            if isinstance(node, ast.Attribute) and node.attr.startswith("__") and node.attr not in ("__init__", *CLASS_WORDS):
                 yield name, node.lineno, "L5 signs are used as signs"
             if isinstance(node, ast.Call) and isinstance(node.func, ast.Attribute):
                 if node.func.attr not in own | METHODS and node.func.attr != "__init__":
                     yield name, node.lineno, f"L25 {node.func.attr}"
 
 
+def class_names():
+    inside = set()
+    for name, node in nodes(ast.Attribute):
+        if node.attr == "__name__" and isinstance(node.value, ast.Attribute) and node.value.attr == "__class__":
+            inside.add((name, node.value.lineno, node.value.end_col_offset))
+            if not isinstance(node.value.value, (ast.Name, ast.Attribute)):
+                yield name, node.lineno, "L8 what stands before .__class__.__name__"
+        elif node.attr == "__name__":
+            yield name, node.lineno, "L8 __name__ alone"
+    for name, node in nodes(ast.Attribute):
+        if node.attr == "__class__" and (name, node.lineno, node.end_col_offset) not in inside:
+            yield name, node.lineno, "L8 __class__ alone"
+    for name, node in nodes(ast.Name):
+        if node.id in CLASS_WORDS:
+            yield name, node.lineno, "L8 " + node.id
+
+
 def classes():
-    methods, properties, statics, attributes = {}, {}, {}, {}
+    methods, properties, statics, attributes, stored_in = {}, {}, {}, {}, {}
     for name, made in nodes(ast.ClassDef):
         if made.decorator_list or made.keywords:
             yield name, made.lineno, "L5 class"
@@ -205,6 +231,7 @@ def classes():
                 for part in ast.walk(node):
                     if isinstance(part, ast.Attribute) and isinstance(part.ctx, ast.Store):
                         attributes.setdefault(part.attr, (name, part.lineno))
+                        stored_in.setdefault(part.attr, set()).add(made.name)
             elif not (isinstance(node, ast.Expr) and node is made.body[0]):
                 yield name, node.lineno, "L5 body of a class"
         if len(found) != len(set(found)):
@@ -216,8 +243,14 @@ def classes():
             yield kind[word], 0, f"L5 {word} in {others[word]}"
     for word in set(attributes) & (set(statics) | set(methods)):
         yield *attributes[word], f"L5 or L18 attribute {word}"
+    # A class may store what is a property of another one, as no method is read off a class by its name (below).
     for word in set(attributes) & set(properties) - {"today"}:
-        yield *attributes[word], f"L5 property {word} is assigned"
+        if properties[word] in stored_in[word] or word not in ("passed", "failed"):
+            yield *attributes[word], f"L5 property {word} is assigned"
+    made_here = {node.name for _, node in nodes(ast.ClassDef)}
+    for name, node in nodes(ast.Attribute):
+        if isinstance(node.value, ast.Name) and node.value.id in made_here and node.attr in set(methods) | set(properties):
+            yield name, node.lineno, f"L5 {node.attr} is read off a class"
     for word in set(attributes) & METHODS - {"count", "index", "find", "get", "join", "lower", "upper", "split", "strip"}:
         yield *attributes[word], f"L26 attribute {word}"
 
@@ -311,5 +344,5 @@ def endings():
 
 
 CHECKS = (
-    files_and_sizes, imports, module_level, statements_and_values, names_used, classes, generators, sets, errors, endings,
+    files_and_sizes, imports, module_level, statements_and_values, names_used, class_names, classes, generators, sets, errors, endings,
 )
