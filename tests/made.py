@@ -85,8 +85,9 @@ def true_in(history, saying):
 
 
 def plain_histories(book, points=()):
-    """All plain histories by the told points and these that keep the book, in the order of histories."""
-    lives = book.lives
+    """All plain histories that keep the book, by its told points and these, of its tools and those of these, in their order."""
+    later = {tool: book.lives.beginnings(tool)[1:] for tool in book.tools}
+    lives = Lives({**{tool: () for tool, moment in points}, **later})
     told = {*book.told, *points}
     choices = []
     for life in lives.listed:
@@ -107,21 +108,3 @@ def kept_book(source, **bounds):
         book = some_book(source, **bounds)
         if keeping(book):
             return book
-
-
-def wide_histories(book, points):
-    """The histories that keep the book, of its tools and those of the points, one for each choice at told points and these."""
-    later = {tool: book.lives.beginnings(tool)[1:] for tool in book.tools}
-    lives = Lives({**{tool: () for tool, moment in points}, **later})
-    told = {*book.told, *points}
-    choices = []
-    for life in lives.listed:
-        moments = sorted(moment for tool, moment in told if lives.life_of(tool, moment) == life)
-        choices.append([*([life[1]] if moments else []), *[moment + 1 for moment in moments[:-1]], None])
-    pairs = [pair for number, row in book.rows() for pair in row.pairs(lives)]
-    found = []
-    for turns in itertools.product(*choices):
-        history = History(lives, dict(zip(lives.listed, turns)))
-        if not any(true_in(history, one) and true_in(history, other) for one, other in pairs):
-            found.append(history)
-    return found

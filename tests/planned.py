@@ -4,7 +4,7 @@ A state is the tuple of the entries' outcomes, None for one that has none; the h
 left there are the bits of an integer.
 """
 
-from made import wide_histories
+from made import plain_histories
 from soundtill.entries import Entry
 from soundtill.plans import Plan, Stall
 
@@ -15,7 +15,7 @@ class Search:
     def __init__(self, book, menu, wanted):
         self.menu, self.wanted = list(menu), list(wanted)
         points = [point for entry in menu for point in ((entry.tool, entry.moment), (entry.by, entry.moment))]
-        self.kept = wide_histories(book, points + [(saying.tool, saying.moment) for saying in wanted])
+        self.kept = plain_histories(book, points + [(saying.tool, saying.moment) for saying in wanted])
         self.all = (1 << len(self.kept)) - 1
         self.allowed = [self.allowed_by(entry) for entry in menu]
         self.truths = [self.bits(lambda history, saying=saying: history[saying.tool, saying.moment] == saying.is_sound) for saying in wanted]

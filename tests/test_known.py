@@ -4,7 +4,7 @@ import itertools
 import random
 
 from kit import Case
-from made import some_row, wide_histories
+from made import some_row, plain_histories
 from soundtill.books import Book
 from soundtill.errors import TooMany
 from soundtill.judge import Judge
@@ -42,7 +42,7 @@ def some_story(source, deeds):
 
 def word_by_histories(book, saying):
     """The word of a saying by all plain histories of a book and, if it lacks the tool, of this tool."""
-    kept = wide_histories(book, [saying.point])
+    kept = plain_histories(book, [saying.point])
     if not kept:
         return "contradicted"
     truths = {history(saying) for history in kept}
