@@ -6,6 +6,7 @@ package does not need more. Each check yields (file, line, rule).
 
 import ast
 import builtins
+import functools
 import pathlib
 import re
 
@@ -37,6 +38,7 @@ BARRED = re.compile(
 )
 
 
+@functools.lru_cache(maxsize=None)
 def trees():
     """The name, the text and the tree of each file."""
     return [(path.name, path.read_text(), ast.parse(path.read_text())) for path in sorted(PACKAGE.rglob("*.py"))]
