@@ -15,8 +15,19 @@ class Plan:
 
     def __init__(self, entry, passed, failed):
         self.entry = entry
-        self.passed = passed
-        self.failed = failed
+        # Not self.passed and self.failed: an Entry has properties of these names, without setters.
+        self._passed = passed
+        self._failed = failed
+
+    @property
+    def passed(self):
+        """The plan for the outcome "pass", or None."""
+        return self._passed
+
+    @property
+    def failed(self):
+        """The plan for the outcome "fail", or None."""
+        return self._failed
 
     @staticmethod
     def done():

@@ -214,7 +214,7 @@ def class_names():
 
 
 def classes():
-    methods, properties, statics, attributes, stored_in = {}, {}, {}, {}, {}
+    methods, properties, statics, attributes = {}, {}, {}, {}
     for name, made in nodes(ast.ClassDef):
         if made.decorator_list or made.keywords:
             yield name, made.lineno, "L5 class"
@@ -233,7 +233,6 @@ def classes():
                 for part in ast.walk(node):
                     if isinstance(part, ast.Attribute) and isinstance(part.ctx, ast.Store):
                         attributes.setdefault(part.attr, (name, part.lineno))
-                        stored_in.setdefault(part.attr, set()).add(made.name)
             elif not (isinstance(node, ast.Expr) and node is made.body[0]):
                 yield name, node.lineno, "L5 body of a class"
         if len(found) != len(set(found)):
@@ -245,16 +244,24 @@ def classes():
             yield kind[word], 0, f"L5 {word} in {others[word]}"
     for word in set(attributes) & (set(statics) | set(methods)):
         yield *attributes[word], f"L5 or L18 attribute {word}"
-    # A class may store what is a property of another one, as no method is read off a class by its name (below).
-    for word in set(attributes) & set(properties) - {"today"}:
-        if properties[word] in stored_in[word] or word not in ("passed", "failed"):
-            yield *attributes[word], f"L5 property {word} is assigned"
     made_here = {node.name for _, node in nodes(ast.ClassDef)}
     for name, node in nodes(ast.Attribute):
         if isinstance(node.value, ast.Name) and node.value.id in made_here and node.attr in set(methods) | set(properties):
             yield name, node.lineno, f"L5 {node.attr} is read off a class"
     for word in set(attributes) & METHODS - {"count", "index", "find", "get", "join", "lower", "upper", "split", "strip"}:
         yield *attributes[word], f"L26 attribute {word}"
+
+
+def assigned_properties():
+    """Yields what is assigned, in any class or function, to the name of a property without a setter in some class."""
+    bare = set()
+    for _, made in nodes(ast.ClassDef):
+        decorated = [(node.name, mark) for node in made.body if isinstance(node, ast.FunctionDef) for mark in node.decorator_list]
+        setters = {word for word, mark in decorated if isinstance(mark, ast.Attribute) and mark.attr == "setter"}
+        bare |= {word for word, mark in decorated if isinstance(mark, ast.Name) and mark.id == "property"} - setters
+    for name, node in nodes(ast.Attribute):
+        if isinstance(node.ctx, ast.Store) and node.attr in bare:
+            yield name, node.lineno, f"L5 property {node.attr} is assigned"
 
 
 def generators():
@@ -346,5 +353,5 @@ def endings():
 
 
 CHECKS = (
-    files_and_sizes, imports, module_level, statements_and_values, names_used, class_names, classes, generators, sets, errors, endings,
+    files_and_sizes, imports, module_level, statements_and_values, names_used, class_names, classes, assigned_properties, generators, sets, errors, endings,
 )

@@ -140,8 +140,11 @@ class Interface(unittest.TestCase):
     def test_attributes_are_set_when_an_object_is_made(self):
         entry, done = found("entries.Entry")[0]("a", 3, "b"), found("plans.Plan")[0].done()
         ask, stall = found("plans.Plan")[0].ask(entry, done, None), found("plans.Stall")[0]
-        for thing, names in ((entry, "tool moment by"), (done, "entry passed failed"), (ask, "entry passed failed"), (stall.end(3), "at answers"), (stall.of(3), "at answers")):
+        for thing, names in ((entry, "tool moment by"), (done, "entry"), (ask, "entry"), (stall.end(3), "at answers"), (stall.of(3), "at answers")):
             self.assertLessEqual(set(names.split()), set(vars(thing)))
+        # The branches are properties, as no attribute may have the name of a property of an Entry.
+        for plan, branches in ((done, (None, None)), (ask, (done, None))):
+            self.assertEqual((plan.passed, plan.failed), branches)
 
     def test_arguments(self):
         for path, names in ARGUMENTS.items():

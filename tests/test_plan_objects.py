@@ -8,7 +8,7 @@ from soundtill.books import Book
 from soundtill.entries import Entry
 from soundtill.errors import BadEntry, BadText
 from soundtill.plans import Plan, Stall
-from soundtill.rows import Passed
+from soundtill.rows import Failed, Passed
 from soundtill.sayings import Saying
 from soundtill.texts import plan_text
 
@@ -62,6 +62,27 @@ class Made(Case):
         self.same(both.failed, Plan.ask(entry=B, passed=None, failed=DONE))
         self.assertIs(both.failed.passed, None)
         self.assertEqual((len(both), both.depth, str(both)), (2, 2, "check a 5 by s done check b 0 by b none done"))
+
+    def test_branches_are_kept_as_they_were_passed(self):
+        for one in plans(60, 387):
+            for other in (None, DONE, one):
+                first, second = Plan.ask(A, one, other), Plan.ask(A, other, one)
+                self.assertIs(first.passed, one)
+                self.assertIs(first.failed, other)
+                self.assertIs(second.passed, other)
+                self.assertIs(second.failed, one)
+                self.same(Plan.ask(A, one, None).passed, one)
+                self.same(Plan.ask(A, None, one).failed, one)
+        self.assertIs(Plan.done().passed, None)
+        self.assertIs(Plan.done().failed, None)
+
+    def test_the_entry_has_rows_of_the_same_names(self):
+        entry = Entry("a", 5, "b")
+        asked = Plan.ask(entry, DONE, None)
+        self.same(entry.passed, Passed("a", 5, "b"))
+        self.same(entry.failed, Failed("a", 5, "b"))
+        self.same(asked.entry.passed, Passed("a", 5, "b"))
+        self.same(asked.entry.failed, Failed("a", 5, "b"))
 
     def test_wrong_parts(self):
         values = [None, True, False, 0, "done", "none", Entry, Plan.done, Stall.end(0), Passed("a", 3, "b"), Book(), *STRANGE]
